@@ -1,0 +1,1 @@
+"""A picture of what's under way: coins on channels, and snapshots of the whole."""
