@@ -1,6 +1,6 @@
 """The calls on one net: read from one list of whole numbers, answered in another."""
 
-from coinpictures.state import Net
+from coinpictures.state import MARK, MESSAGE, Mark, Net
 
 FIRST_PURSES = (10, 10)
 FIRST_ENDS = (1, 2, 2, 1)
@@ -62,7 +62,7 @@ def answer_put(net, reader):
         return [-2]
     if coins > sender.purse:
         return [-3]
-    net.put_message(c, coins, hops)
+    net.put_as_deed(c, coins, hops)
     return [sender.purse]
 
 
@@ -152,6 +152,76 @@ def answer_lacks(net, reader):
     return [len(missing)] + missing + [len(unshut)] + unshut
 
 
+def answer_count(net, reader):
+    k = reader.read_number()
+    if not net.has_picture(k):
+        return [-1]
+    return [net.pictures[k].deeds_before, net.deeds]
+
+
+def answer_fall(net, reader):
+    p = reader.read_number()
+    if not net.has_process(p):
+        return [-1]
+    process = net.process(p)
+    if process.down:
+        return [-6]
+    lost = process.purse
+    process.fall()
+    return [lost]
+
+
+def answer_back(net, reader):
+    k = reader.read_number()
+    if not net.has_picture(k):
+        return [-1]
+    picture = net.pictures[k]
+    if not picture.is_whole():
+        return [-8]
+    net.go_back(k)
+    return [picture.all_coins()]
+
+
+def answer_drop(net, reader):
+    k = reader.read_number()
+    if not net.has_picture(k):
+        return [-1]
+    net.drop_picture(k)
+    return [len(net.pictures)]
+
+
+def answer_shows(net, reader):
+    told = []
+    for process in net.processes:
+        told.extend([process.purse, process.memory, 1 if process.down else 0])
+    return told
+
+
+def tell_waiting(thing):
+    if isinstance(thing, Mark):
+        return [MARK, thing.picture_number]
+    return [MESSAGE, thing.coins, thing.memory, thing.hops]
+
+
+def answer_channel(net, reader):
+    c = reader.read_number()
+    if not net.has_channel(c):
+        return [-1]
+    waiting = net.channel(c).waiting
+    told = [len(waiting)]
+    for thing in waiting:
+        told.extend(tell_waiting(thing))
+    return told
+
+
+def answer_total(net, reader):
+    return [net.coins_in_purses(), net.coins_on_channels()]
+
+
+def answer_newest(net, reader):
+    return [max(net.whole_pictures(), default=0)]
+
+
 # A call's number is its place here.
 CALLS = (
     answer_net,
@@ -162,6 +232,14 @@ CALLS = (
     answer_join,
     answer_picture,
     answer_lacks,
+    answer_count,
+    answer_fall,
+    answer_back,
+    answer_drop,
+    answer_shows,
+    answer_channel,
+    answer_total,
+    answer_newest,
 )
 
 

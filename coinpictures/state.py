@@ -17,12 +17,26 @@ class Mark:
         self.picture_number = picture_number
 
 
+def coins_among(waiting):
+    return sum([thing.coins for thing in waiting if isinstance(thing, Message)])
+
+
 class Process:
     def __init__(self, purse):
         self.purse = purse
         self.memory = 0
         self.down = False
         self.leaving = []
+
+    def fall(self):
+        self.purse = 0
+        self.memory = 0
+        self.down = True
+
+    def rise(self, purse, memory):
+        self.purse = purse
+        self.memory = memory
+        self.down = False
 
 
 class Channel:
@@ -33,8 +47,9 @@ class Channel:
 
 
 class Picture:
-    def __init__(self, process_count, channel_count):
+    def __init__(self, process_count, channel_count, deeds_before):
         self.process_count = process_count
+        self.deeds_before = deeds_before
         self.records = {}
         self.shut = {}
         self.caught = [[] for c in range(channel_count)]
@@ -53,6 +68,15 @@ class Picture:
         if self.has_record(p) and not self.is_shut(c):
             self.caught[c - 1].append(message)
 
+    # What a process does ahead of its own record goes into the picture, whenever the picture was begun.
+    def see_deed(self, p):
+        if not self.has_record(p):
+            self.deeds_before += 1
+
+    def all_coins(self):
+        in_purses = sum([record[0] for record in self.records.values()])
+        return in_purses + sum([coins_among(messages) for messages in self.caught])
+
 
 class Net:
     def __init__(self, purses, ends):
@@ -64,6 +88,7 @@ class Net:
         self.channels = [Channel(ends[k], ends[k + 1]) for k in range(0, len(ends), 2)]
         self.pictures = {}
         self.begun = 0
+        self.deeds = 0
         for c in range(1, len(self.channels) + 1):
             self.sender(c).leaving.append(c)
 
@@ -88,6 +113,22 @@ class Net:
     def getter(self, c):
         return self.process(self.channel(c).target)
 
+    def coins_in_purses(self):
+        return sum([process.purse for process in self.processes])
+
+    def coins_on_channels(self):
+        return sum([coins_among(channel.waiting) for channel in self.channels])
+
+    def count_deed(self, p):
+        self.deeds += 1
+        for picture in self.pictures.values():
+            picture.see_deed(p)
+
+    # Apart from put_message, since what is sent on belongs to the deed of the taking.
+    def put_as_deed(self, c, coins, hops):
+        self.count_deed(self.channel(c).source)
+        self.put_message(c, coins, hops)
+
     def put_message(self, c, coins, hops):
         sender = self.sender(c)
         sender.purse -= coins
@@ -109,7 +150,7 @@ class Net:
 
     def begin_picture(self):
         self.begun += 1
-        self.pictures[self.begun] = Picture(len(self.processes), len(self.channels))
+        self.pictures[self.begun] = Picture(len(self.processes), len(self.channels), self.deeds)
         return self.begun
 
     def record(self, k, p):
@@ -139,6 +180,7 @@ class Net:
 
     def take_message(self, c, message):
         p = self.channel(c).target
+        self.count_deed(p)
         for picture in self.pictures.values():
             picture.see_message(c, p, message)
         self.get_message(c, message)
@@ -151,3 +193,27 @@ class Net:
                 self.take_first(c)
                 taken += 1
         return taken
+
+    def drop_picture(self, k):
+        self.pictures.pop(k)
+
+    def whole_pictures(self):
+        return [k for k in self.pictures if self.pictures[k].is_whole()]
+
+    def keep_whole_pictures(self):
+        kept = {}
+        for k in self.whole_pictures():
+            kept[k] = self.pictures[k]
+        self.pictures = kept
+
+    def go_back(self, k):
+        picture = self.pictures[k]
+        for p in range(1, len(self.processes) + 1):
+            record = picture.records[p]
+            self.process(p).rise(record[0], record[1])
+        for c in range(1, len(self.channels) + 1):
+            channel = self.channel(c)
+            # A copy, since the picture keeps its messages when they are taken from the channel.
+            channel.waiting = list(picture.caught[c - 1])
+        self.keep_whole_pictures()
+        self.deeds = picture.deeds_before

@@ -37,6 +37,38 @@ def lacks(k):
     return [7, k]
 
 
+def count(k):
+    return [8, k]
+
+
+def fall(p):
+    return [9, p]
+
+
+def back(k):
+    return [10, k]
+
+
+def drop(k):
+    return [11, k]
+
+
+def shows():
+    return [12]
+
+
+def channel(c):
+    return [13, c]
+
+
+def total():
+    return [14]
+
+
+def newest():
+    return [15]
+
+
 def part(given):
     """The answers, one list for each call."""
     parts = []
@@ -52,9 +84,32 @@ def part(given):
 
 def ask(*calls):
     """What each of these calls answers, one behind another on one net."""
+    if len(calls) > 60:
+        raise AssertionError("a list has at most 60 calls")
     return part(answers([number for call in calls for number in call]))
+
+
+def ask_behind(before, *calls):
+    """What each of these calls answers behind those that come before."""
+    return ask(*before, *calls)[len(before):]
 
 
 def last(*calls):
     """What the last of these calls answers."""
     return ask(*calls)[-1]
+
+
+def look():
+    """Calls that together show all of a net with up to five channels and pictures, and then the next picture."""
+    calls = [shows(), total(), newest()]
+    for n in range(1, 6):
+        calls += [channel(n), lacks(n), picture(n), count(n)]
+    return calls + [cut([1]), cut([2])]
+
+
+def check_refused(test, before, refused, answer):
+    """Behind these calls the refused one answers so, and all is as it was."""
+    with test.subTest(refused=refused):
+        given = ask_behind(before, refused, *look(), turns(3), *look())
+        test.assertEqual(given[0], [answer])
+        test.assertEqual(given[1:], ask_behind(before, *look(), turns(3), *look()))

@@ -150,6 +150,11 @@ class Names(unittest.TestCase):
         self.assertFalse(values & METHODS_OF_PYTHON)
         self.assertFalse((methods - {"__init__"}) & METHODS_OF_PYTHON)
 
+    def test_values_are_given_through_a_local_name(self):
+        for place, node in nodes(ast.Attribute):
+            if isinstance(node.ctx, ast.Store):
+                self.assertIsInstance(node.value, ast.Name, place)
+
     def test_no_name_is_a_method_here_and_a_value_there(self):
         methods = {part.name for place, node in nodes(ast.ClassDef) for part in node.body}
         given = {node.attr for place, node in nodes(ast.Attribute) if isinstance(node.ctx, ast.Store)}

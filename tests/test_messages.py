@@ -85,7 +85,8 @@ class Take(unittest.TestCase):
         self.assertEqual(given, [[2], [0], [1, 0, 1, 0], [1, 0, 0, 0], [-5]])
 
     def test_one_coin_is_not_halved(self):
-        self.assertEqual(ask(net([1, 0], [1, 2, 2, 1]), put(1, 1, 1), take(1), take(2))[2:], [[1, 1, 1, 1], [1, 0, 0, 0]])
+        given = ask(net([1, 0], [1, 2, 2, 1]), put(1, 1, 1), take(1), take(2))
+        self.assertEqual(given[2:], [[1, 1, 1, 1], [1, 0, 0, 0]])
 
     def test_first_put_is_first_taken(self):
         given = ask(put(1, 1, 0), put(1, 2, 0), put(1, 3, 0), take(1), take(1), take(1), take(1))

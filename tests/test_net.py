@@ -2,7 +2,8 @@
 
 import unittest
 
-from tests.helper import MOST, ask, cut, join, lacks, last, net, picture, put, take, turns
+from tests.helper import (MOST, ask, back, channel, check_refused, count, cut, drop, fall, join, lacks, last, look, net,
+                          newest, picture, put, shows, take, total, turns)
 
 WHOLE_FIRST_NET = [1, 10, 0, 10, 0, 0, 0]
 
@@ -29,6 +30,15 @@ class FirstNet(unittest.TestCase):
         self.assertEqual(ask(join(1, 1)), [[-1]])
         self.assertEqual(ask(picture(1)), [[-1]])
         self.assertEqual(ask(lacks(1)), [[-1]])
+        self.assertEqual(ask(count(1)), [[-1]])
+        self.assertEqual(ask(fall(2)), [[10]])
+        self.assertEqual(ask(back(1)), [[-1]])
+        self.assertEqual(ask(drop(1)), [[-1]])
+        self.assertEqual(ask(shows()), [[10, 0, 0, 10, 0, 0]])
+        self.assertEqual(ask(channel(2)), [[0]])
+        self.assertEqual(ask(total()), [[20, 0]])
+        self.assertEqual(ask(newest()), [[0]])
+        self.assertEqual(ask(net([1, 2], [2, 2])), [[1]])
 
 
 class NewNet(unittest.TestCase):
@@ -53,6 +63,12 @@ class NewNet(unittest.TestCase):
     def test_called_again_the_next_picture_is_1(self):
         given = ask(cut([1]), cut([1]), net([1, 1], [1, 2]), cut([1]), net([1, 1], [1, 2]), cut([1]), cut([2]))
         self.assertEqual(given, [[1], [2], [1], [1], [1], [1], [2]])
+
+    def test_called_again_all_is_as_in_a_first_net(self):
+        before = [put(1, 4, 2), cut([1, 2]), turns(3), put(2, 1, 0), cut([1]), fall(2), put(1, 1, 1)]
+        for made in ([cut([1])], [back(1)], [drop(1)], [fall(1)]):
+            given = ask(*before, *made, net([10, 10], [1, 2, 2, 1]), *look(), turns(4), picture(1))
+            self.assertEqual(given[len(before) + 2:], ask(*look(), turns(4), picture(1)))
 
     def test_called_again_with_fewer_or_more(self):
         given = ask(net([1] * 8, [8, 1] * 16), put(16, 1, 0), net([2, 3], [2, 1]), put(2, 0, 0), put(1, 3, 0),
@@ -100,14 +116,12 @@ class NetRefusals(unittest.TestCase):
         self.assertEqual(last(net([1, 1], [9] * 34)), [-3])
 
     def test_all_is_as_it_was(self):
-        before = [put(1, 3, 2), cut([2]), put(2, 1, 1)]
-        behind = [take(1), lacks(1), turns(20), picture(1), cut([1])]
-        plain = ask(*before, *behind)
-        for refused in (net([1], [1, 1]), net([1, 2000], [1, 1]), net([1, 1], [1]), net([1, 1], [3, 1])):
-            with self.subTest(refused=refused):
-                given = ask(*before, refused, *behind)
-                self.assertLess(given.pop(3)[0], 0)
-                self.assertEqual(given, plain)
+        for before in ([put(1, 3, 2), cut([2]), put(2, 1, 1)],
+                       [put(1, 3, 2), cut([1, 2]), turns(2), cut([2]), fall(1)]):
+            check_refused(self, before, net([1], [1, 1]), -1)
+            check_refused(self, before, net([1, 2000], [1, 1]), -2)
+            check_refused(self, before, net([1, 1], [1]), -3)
+            check_refused(self, before, net([1, 1], [3, 1]), -4)
 
 
 if __name__ == "__main__":
